@@ -1,0 +1,1 @@
+"""A drum machine's desk, with its journal."""
