@@ -67,6 +67,16 @@ def first_tick_at(tick, address):
     return tick + (address - tick) % BAND_SIZE
 
 
+def band_start(address):
+    return address - address % BAND_SIZE
+
+
 def around_band(address, count):
-    first = address - address % BAND_SIZE
+    first = band_start(address)
     return [first + (address + step) % BAND_SIZE for step in range(count)]
+
+
+# The words of the address's band, from it on and around.
+def words_around(drum, address):
+    first = band_start(address)
+    return drum[address:first + BAND_SIZE] + drum[first:address]

@@ -1,6 +1,6 @@
 """The machine's orders: what stops them, what each does, and its ticks."""
 
-from drumdesk.machine import BAND_SIZE, CARD_SIZE, DRUM_SIZE, TICKS, around_band, first_tick_at
+from drumdesk.machine import BAND_SIZE, CARD_SIZE, DRUM_SIZE, TICKS, around_band, first_tick_at, words_around
 from drumdesk.words import WORD_SIZE, digit_sum, is_long, lower_twenty, lower_word, power_of_ten
 from drumdesk.words import quotient_to_nearest, quotient_toward_zero, upper_word
 
@@ -158,8 +158,8 @@ def branch_over(machine, at):
 
 # The ticks in which words pass by before the one that's found are counted in with the ticks behind.
 def look_up(machine, at):
-    for before, address in enumerate(around_band(at, BAND_SIZE)):
-        if machine.drum[address] >= machine.d:
+    for before, word in enumerate(words_around(machine.drum, at)):
+        if word >= machine.d:
             machine.a = before
             return before + 1
     machine.over = 1
@@ -175,7 +175,7 @@ def read_card(machine, at):
 
 
 def punch_card(machine, at):
-    machine.tray.append([machine.drum[address] for address in around_band(at, CARD_SIZE)])
+    machine.tray.append(words_around(machine.drum, at)[:CARD_SIZE])
     return 60
 
 

@@ -55,3 +55,10 @@ def go_on(run, orders, until, pause):
         run.begun += 1
         if pause > 0 and punched(run) == pause:
             return PAUSED
+
+
+# A run that's played: stops, ticks and the tray cut it when it was noted, so they aren't asked again.
+def go_through(run, orders):
+    while run.begun < orders and run.machine.state == 0:
+        do_order(run.machine)
+        run.begun += 1

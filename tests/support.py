@@ -1,4 +1,4 @@
-"""Calls written short, and questions about the machine that are put through runs alone."""
+"""Calls written short, and questions about the machine."""
 
 import unittest
 
@@ -58,6 +58,36 @@ def hand(words):
 
 def run(orders, until=LAST_TICK, pause=0):
     return [5, orders, until, pause]
+
+
+def told():
+    return [6]
+
+
+def peek(address):
+    return [7, address]
+
+
+def tray():
+    return [8]
+
+
+def journal():
+    return [9]
+
+
+def play(row):
+    return [10, len(row)] + list(row)
+
+
+# Journals, entry by entry.
+
+def head(words=None, state=0, over=0, n=0, t=0, a=0, d=0):
+    return load(words, state, over, n, t, a, d)[1:]
+
+
+def was_run(orders, cards=()):
+    return [3, orders, len(cards) // 8] + list(cards)
 
 
 def split(row):

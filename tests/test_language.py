@@ -47,6 +47,16 @@ def is_plain(node):
     return isinstance(node, (ast.Constant, ast.Name))
 
 
+def defined(tree):
+    names = [node.name for node in tree.body if isinstance(node, (ast.FunctionDef, ast.ClassDef))]
+    return names + [node.targets[0].id for node in tree.body if isinstance(node, ast.Assign)]
+
+
+def drawn(tree):
+    return [(node.module.split(".")[1] + ".py", [part.name for part in node.names])
+            for node in tree.body if isinstance(node, ast.ImportFrom)]
+
+
 class Language(unittest.TestCase):
     def test_only_python_files(self):
         found = [path.name for path in PACKAGE.iterdir() if path.name != "__pycache__"]
@@ -91,6 +101,39 @@ class Language(unittest.TestCase):
                     self.assertIn(node, tree.body, name)
                     self.assertEqual(node.level, 0, name)
                     self.assertTrue(node.module.startswith("drumdesk."), (name, node.module))
+
+    def test_imports_come_from_the_file_that_defines_the_name(self):
+        tops = {name: defined(tree) for name, tree in trees()}
+        for name, tree in trees():
+            for module, names in drawn(tree):
+                for wanted in names:
+                    self.assertIn(wanted, tops[module], (name, wanted))
+
+    def test_no_two_files_draw_from_one_another(self):
+        left = {name: {module for module, names in drawn(tree)} for name, tree in trees()}
+        while left:
+            free = [name for name in left if not left[name] & set(left)]
+            self.assertNotEqual(free, [], left)
+            for name in free:
+                left.pop(name)
+
+    def test_names_at_the_top_stand_once_and_are_used(self):
+        for name, tree in trees():
+            imported = [wanted for module, names in drawn(tree) for wanted in names]
+            names = imported + defined(tree)
+            self.assertEqual(len(names), len(set(names)), name)
+            read = {node.id for node in ast.walk(tree) if isinstance(node, ast.Name)}
+            self.assertEqual([wanted for wanted in imported if wanted not in read], [], name)
+
+    def test_locals_are_not_called_like_imports_or_classes(self):
+        for name, tree in trees():
+            taken = [wanted for module, names in drawn(tree) for wanted in names]
+            taken += [node.name for node in tree.body if isinstance(node, ast.ClassDef)]
+            for node in ast.walk(tree):
+                if isinstance(node, ast.arg):
+                    self.assertNotIn(node.arg, taken, (name, node.lineno))
+                if isinstance(node, ast.Name) and isinstance(node.ctx, ast.Store):
+                    self.assertNotIn(node.id, taken, (name, node.lineno))
 
     def test_functions_and_classes(self):
         for name, tree in trees():
